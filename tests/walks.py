@@ -76,3 +76,54 @@ def comes_of(rows):
             return None
         comes += [0] * (first - len(comes)) + [many] * ticks
     return comes
+
+
+def carried_piece_by_piece(width, heap):
+    """How many of each pair are carried: width times one piece is taken, always the next one due."""
+    left = [many for hour, many in heap]
+    for _ in range(width):
+        due = [(heap[place][0], place) for place in range(len(heap)) if left[place]]
+        if not due:
+            break
+        left[min(due)[1]] -= 1
+    return [many - rest for (hour, many), rest in zip(heap, left)]
+
+
+def ran_tick_by_tick(width, lots):
+    """What a lane carries of these lots, by a walk from tick 0 on."""
+    left = [many for come, hour, many in lots]
+    told = []
+    tick = 0
+    while any(left):
+        heap = [(hour, left[place] if come <= tick else 0) for place, (come, hour, many) in enumerate(lots)]
+        parts = carried_piece_by_piece(width, heap)
+        for place in sorted(range(len(lots)), key=lambda place: lots[place][1]):
+            if parts[place]:
+                told.append((tick, place, parts[place]))
+                left[place] -= parts[place]
+        tick += 1
+    return told
+
+
+def can_keep(width, lots):
+    """Whether some way of carrying keeps all hours: every one is tried, tick by tick."""
+    found = {tuple([many for come, hour, many in lots])}
+    for tick in range(max([hour for come, hour, many in lots], default=0)):
+        reached = set()
+        for left in found:
+            reached |= lefts_behind(width, lots, left, tick)
+        found = {left for left in reached
+                 if not any(rest and lots[place][1] <= tick + 1 for place, rest in enumerate(left))}
+    return bool(found)
+
+
+def lefts_behind(width, lots, left, tick):
+    """What can be left of the lots behind a tick, by all ways to carry in it."""
+    ways = {(): width}
+    for (come, hour, many), rest in zip(lots, left):
+        longer = {}
+        for ahead, free in ways.items():
+            for part in range(min(free, rest if come <= tick else 0) + 1):
+                longer[(*ahead, rest - part)] = free - part
+        ways = longer
+    return set(ways)
