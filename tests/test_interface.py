@@ -13,14 +13,20 @@ FUNCTIONS = {
     "carrying": {"carried": "width heap", "ran": "width lots", "tight": "width lots"},
     "names": {"is_name": "text", "wrong_at": "way lanes"},
     "reading": {"written": "plan", "plan_of": "text"},
+    "judging": {"over": "scene"},
+    "futures": {"future": "scene first end", "shown": "scene first end rows"},
+    "lots": {"hours_of": "came way"},
 }
 CLASSES = {
     "jars": {"Jar": {"__init__": "size rate mouth", "told": ""}},
     "flows": {"Flow": {"__init__": "jar marks=None", "may": "", "come": "many=0", "ahead": "ticks",
                        "most": "after ticks", "bursts": "after ticks", "fits": "rows"}},
     "plans": {"Plan": {"__init__": "lanes streams", "__eq__": "other"}},
+    "scenes": {"Scene": {"__init__": "width now knowns asks opens=0", "need": "first end", "holds": "first end",
+                         "known_rows": "", "ask_rows": "", "with_ask": "flow after wait", "with_width": "width",
+                         "with_opens": "opens"}},
 }
-MODULES = sorted(["errors", *FUNCTIONS, *CLASSES])
+MODULES = sorted({"errors", *FUNCTIONS, *CLASSES})
 
 
 def told_arguments(made):

@@ -45,14 +45,19 @@ def greedy(numbers, marks, after, ticks):
 
 def best(numbers, marks, after, ticks):
     """The most of all ways to come ahead of the window and in it, every one of them tried."""
+    return best_in(numbers, marks, [tick >= after for tick in range(after + ticks)])
+
+
+def best_in(numbers, marks, counted):
+    """The most of all ways to come in these ticks, every one of them tried; only those of True ones count."""
     found = {marks: 0}
-    for tick in range(after + ticks):
+    for counts in counted:
         reached = {}
         for held, sum_then in found.items():
             for many in range(may(numbers, held) + 1):
                 left = behind(numbers, held, many)
-                counted = sum_then + (many if tick >= after else 0)
-                reached[left] = max(counted, reached.get(left, 0))
+                sum_now = sum_then + (many if counts else 0)
+                reached[left] = max(sum_now, reached.get(left, 0))
         found = reached
     return max(found.values())
 
@@ -127,3 +132,37 @@ def lefts_behind(width, lots, left, tick):
                 longer[(*ahead, rest - part)] = free - part
         ways = longer
     return set(ways)
+
+
+def needed(now, knowns, asks, first, end):
+    """What a stretch needs, each tick at the door asked for itself; asks are tuples (numbers, marks, after, wait)."""
+    pieces = sum(many for come, hour, many in knowns if first <= come and hour <= end)
+    for numbers, marks, after, wait in asks:
+        counted = [is_needed(door, after, wait, first, end) for door in range(now, end)]
+        pieces += best_in(numbers, marks, counted)
+    return pieces
+
+
+def is_needed(door, after, wait, first, end):
+    """Whether what comes in this tick at the door comes to the lane, and must be carried, in the stretch."""
+    return door + after >= first and door + after + wait <= end
+
+
+def open_ticks(first, end, opens):
+    return len([tick for tick in range(first, end) if tick >= opens])
+
+
+def shown_by(width, now, knowns, asks, opens, first, end, rows):
+    """Whether rows (place, tick, ticks, many) show that the stretch is over, by a walk through their ticks."""
+    if first < now or end <= first:
+        return False
+    pieces = sum(many for come, hour, many in knowns if first <= come and hour <= end)
+    for place, tick, ticks, many in rows:
+        if place not in range(len(asks)):
+            return False
+    for place, (numbers, marks, after, wait) in enumerate(asks):
+        comes = comes_of([(tick - now, ticks, many) for at, tick, ticks, many in rows if at == place])
+        if comes is None or walked(numbers, marks, comes)[1] is not None:
+            return False
+        pieces += sum(many for tick, many in enumerate(comes) if is_needed(now + tick, after, wait, first, end))
+    return pieces > width * open_ticks(first, end, opens)
