@@ -16,6 +16,10 @@ FUNCTIONS = {
     "judging": {"over": "scene"},
     "futures": {"future": "scene first end", "shown": "scene first end rows"},
     "lots": {"hours_of": "came way"},
+    "raising": {"raised": "plan", "plan_now": "house"},
+    "limits": {"least": "low high good", "greatest": "low high good", "least_wait": "house lane jar after=0",
+               "quickest": "house jar lanes", "greatest_size": "house rate mouth way", "least_width": "house lane",
+               "longest_shut": "house lane"},
 }
 CLASSES = {
     "jars": {"Jar": {"__init__": "size rate mouth", "told": ""}},
@@ -25,6 +29,10 @@ CLASSES = {
     "scenes": {"Scene": {"__init__": "width now knowns asks opens=0", "need": "first end", "holds": "first end",
                          "known_rows": "", "ask_rows": "", "with_ask": "flow after wait", "with_width": "width",
                          "with_opens": "opens"}},
+    "house": {"House": {"__init__": "", "build": "name width", "let_in": "name jar way", "turn": "name jar way",
+                        "let_go": "name", "widen": "lane width", "shut": "lane ticks", "tick": "comes=None",
+                        "lane_rows": "", "stream_rows": "", "lot_rows": "", "standing": "lane", "most_of": "name",
+                        "book": "", "scene": "lane"}},
 }
 MODULES = sorted({"errors", *FUNCTIONS, *CLASSES})
 
