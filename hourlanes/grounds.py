@@ -42,36 +42,36 @@ class Ground:
         if name not in self.flows:
             raise Unknown(name)
 
-    def add_lane(self, name, width):
+    def build(self, name, width):
         check_name(name, self.widths)
         check_width(width)
         self.widths[name] = width
         self.openings[name] = 0
 
-    def add_stream(self, name, jar, way):
+    def let_in(self, name, jar, way):
         check_name(name, self.flows)
         check_way(way, self.widths)
         self.flows[name] = Flow(jar)
         self.ways[name] = legs_of(way)
 
-    def turn_stream(self, name, jar, way):
+    def turn(self, name, jar, way):
         self.check_stream(name)
         check_way(way, self.widths)
         self.flows[name] = Flow(jar, min(jar.size, self.flows[name].marks))
         self.ways[name] = legs_of(way)
 
-    def drop_stream(self, name):
+    def let_go(self, name):
         self.check_stream(name)
         del self.flows[name]
         del self.ways[name]
         return sum([lot.many for lot in self.lots if lot.name == name])
 
-    def set_width(self, lane, width):
+    def widen(self, lane, width):
         self.check_lane(lane)
         check_width(width)
         self.widths[lane] = width
 
-    def set_shut(self, lane, ticks):
+    def shut(self, lane, ticks):
         self.check_lane(lane)
         if not 0 <= ticks <= LARGEST:
             raise NoTick("a lane is shut for 0 to 10 ** 9 ticks")

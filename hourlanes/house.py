@@ -17,33 +17,33 @@ class House:
         self.deeds = []
 
     def build(self, name, width):
-        self.ground.add_lane(name, width)
+        self.ground.build(name, width)
         self.deeds.append(("build", name, width))
 
     def let_in(self, name, jar, way):
         tried = self.ground.twin()
-        tried.add_stream(name, jar, way)
+        tried.let_in(name, jar, way)
         self.settle(tried, [leg[0] for leg in way], ("in", name, jar.told(), legs_of(way)))
 
     def turn(self, name, jar, way):
         tried = self.ground.twin()
-        tried.turn_stream(name, jar, way)
+        tried.turn(name, jar, way)
         # The lanes of the old way need no look: less can come there than before.
         self.settle(tried, [leg[0] for leg in way], ("turn", name, jar.told(), legs_of(way)))
 
     def let_go(self, name):
-        many = self.ground.drop_stream(name)
+        many = self.ground.let_go(name)
         self.deeds.append(("go", name, many))
         return many
 
     def widen(self, lane, width):
         tried = self.ground.twin()
-        tried.set_width(lane, width)
+        tried.widen(lane, width)
         self.settle(tried, [lane], ("widen", lane, width))
 
     def shut(self, lane, ticks):
         tried = self.ground.twin()
-        tried.set_shut(lane, ticks)
+        tried.shut(lane, ticks)
         self.settle(tried, [lane], ("shut", lane, ticks))
 
     def settle(self, tried, lanes, row):

@@ -33,18 +33,28 @@ def filling(flow):
 
 def over_end(scene, first):
     """An end at which a stretch that begins so is over, or None."""
+    rows = climbs(scene, first)
+    for end, excess, slope in rows:
+        if excess > 0:
+            return end
+    last, excess, slope = rows[-1]
+    if slope > 0:
+        return last + (-excess) // slope + 1
+    return None
+
+
+def climbs(scene, first):
+    """Rows (end, excess, slope): need less holds at each end where its growth changes, and how it grows behind it."""
+    rows = []
     excess = 0
     slope = 0
     last = first
     for end, pieces, turn in sorted(changes(scene, first)):
         excess += slope * (end - last) + pieces
-        if excess > 0:
-            return end
         slope += turn
         last = end
-    if slope > 0:
-        return last + (-excess) // slope + 1
-    return None
+        rows.append((end, excess, slope))
+    return rows
 
 
 def changes(scene, first):

@@ -20,6 +20,9 @@ FUNCTIONS = {
     "limits": {"least": "low high good", "greatest": "low high good", "least_wait": "house lane jar after=0",
                "quickest": "house jar lanes", "greatest_size": "house rate mouth way", "least_width": "house lane",
                "longest_shut": "house lane"},
+    "rooms": {"room": "scene", "swell": "scene first last"},
+    "books": {"looked": "book", "again": "book", "kept": "book"},
+    "desk": {"answered": "text"},
 }
 CLASSES = {
     "jars": {"Jar": {"__init__": "size rate mouth", "told": ""}},
@@ -33,8 +36,11 @@ CLASSES = {
                         "let_go": "name", "widen": "lane width", "shut": "lane ticks", "tick": "comes=None",
                         "lane_rows": "", "stream_rows": "", "lot_rows": "", "standing": "lane", "most_of": "name",
                         "book": "", "scene": "lane"}},
+    "doors": {"Door": {"__init__": "house", "wish": "name jar way", "look": "", "waiting": "", "drop": "name",
+                       "__len__": ""}},
 }
-MODULES = sorted({"errors", *FUNCTIONS, *CLASSES})
+MODULES = ["errors", "jars", "flows", "carrying", "names", "plans", "reading", "scenes", "judging", "futures", "lots",
+           "house", "raising", "limits", "rooms", "books", "doors", "desk"]
 
 
 def told_arguments(made):
@@ -47,6 +53,9 @@ class InterfaceTest(unittest.TestCase):
             done = subprocess.run([sys.executable, "-c", f"import hourlanes.{module}"], cwd=ROOT, check=False,
                                   capture_output=True, text=True)
             self.assertEqual((done.returncode, done.stdout, done.stderr), (0, "", ""), module)
+
+    def test_all_modules_are_asked(self):
+        self.assertEqual(sorted(MODULES), sorted({"errors", *FUNCTIONS, *CLASSES}))
 
     def test_functions(self):
         for module, functions in FUNCTIONS.items():
