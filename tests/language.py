@@ -263,6 +263,12 @@ def function_rules(node, own):
     returned = [each.value for each in ast.walk(node) if isinstance(each, ast.Return)]
     if node.name == "__init__" and any(value is not None for value in returned):
         yield "L28"
+    if node.name == "__len__" and not all(is_call_of(value, {"len"}) or isinstance(value, ast.Constant)
+                                          for value in returned):
+        yield "L28"
+    caught = [each.name for each in ast.walk(node) if isinstance(each, ast.ExceptHandler) and each.name]
+    if len(caught) != len(set(caught)):
+        yield "L19"
     if node.name in ("__eq__", "__repr__", "__str__", "__len__"):
         if any(isinstance(each, (ast.Assign, ast.AugAssign, ast.Delete)) for each in ast.walk(node)):
             yield "L28"
@@ -336,8 +342,15 @@ def ends_in(call, name):
 
 
 def call_rules(node, own):
+    if isinstance(node, ast.Lambda):
+        yield from lambda_rules(node)
     if not isinstance(node, ast.Call):
         return
+    if isinstance(node.func, (ast.Subscript, ast.Constant)):
+        yield "L3"
+    for each in node.args:
+        if isinstance(each, ast.Starred) and not isinstance(each.value, (ast.Name, ast.Attribute, ast.List, ast.Tuple)):
+            yield "L7"
     name = name_in(node.func)
     given = {each.arg for each in node.keywords}
     if name in BUILTINS and given - BUILTIN_KEYWORDS.get(name, set()):
@@ -351,6 +364,18 @@ def call_rules(node, own):
             yield "L25"
         if node.func.attr in METHODS and given:
             yield "L25"
+
+
+def lambda_rules(node):
+    if node.args.posonlyargs or node.args.kwonlyargs or node.args.vararg or node.args.kwarg:
+        yield "L4"
+    top = node
+    while hasattr(top, "above"):
+        top = top.above
+    beside = [each for each in ast.walk(top) if isinstance(each, ast.Lambda) and each.lineno == node.lineno]
+    told = [ast.unparse(each.args).split("=")[0] for each in beside]
+    if len(told) != len(set(told)):
+        yield "L13"
 
 
 def at_once_rules(node, own):

@@ -88,8 +88,9 @@ class DeskTest(unittest.TestCase):
 
     def test_many_names_in_a_tick(self):
         self.assert_answers(("lane c 9", "ok"), *[(f"in {name} 3 1 3 c 1", "ok") for name in ["p", "q", "r"]],
-                            ("tick r 1 p 2 x 3 q 3", "nothing"), ("tick", "p 2, q 3, r 1"), ("tick q 1 r 1 p 1", "nothing"),
-                            ("tick q 1 r 1 p 1 q 1", "no row"), ("tick", "p 1, q 1, r 1"))
+                            ("tick r 1 p 2 x 3 q 3", "nothing"), ("tick", "p 2, q 3, r 1"),
+                            ("tick q 1 r 1 p 1", "nothing"), ("tick q 1 r 1 p 1 q 1", "no row"),
+                            ("tick", "p 1, q 1, r 1"))
 
     def test_quick(self):
         self.assert_answers(

@@ -15,7 +15,15 @@ WRONG = [
     ("L16", "from hourlanes.b import other\n\n\ndef f():\n    return other\n"),
     ("L3", "ONE = len('a')\n"),
     ("L3", "if True:\n    ONE = 1\n"),
+    ("L3", "def g():\n    return 1\n\n\nALL = {'g': g}\n\n\ndef f(x):\n    return ALL[x]()\n"),
     ("L4", "def f(a, /):\n    return a\n"),
+    ("L4", "def f():\n    return lambda *xs: xs\n"),
+    ("L7", "def f(rows):\n    return f(*rows[0])\n"),
+    ("L13", "def f():\n    return [lambda x: 1, lambda x: 2]\n"),
+    ("L19", "class A(ValueError):\n    pass\n\n\nclass B(ValueError):\n    pass\n\n\ndef f(x):\n    try:\n"
+            "        return f(x)\n    except A as e:\n        return str(e)\n"
+            "    except B as e:\n        return str(e)\n"),
+    ("L28", "class C:\n    def __len__(self):\n        return self.many()\n\n    def many(self):\n        return 1\n"),
     ("L4", "def f(a=[]):\n    return a\n"),
     ("L5", "class C:\n    def __hash__(self):\n        return 1\n"),
     ("L5", "def f():\n    class C:\n        pass\n    return C()\n"),
